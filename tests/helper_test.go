@@ -149,6 +149,14 @@ func wantEqual[T any](t *testing.T, what string, got, want T) {
 	}
 }
 
+// wantAlike fails the test if a comparison of two values is not as wanted, both ways.
+func wantAlike[T any](t *testing.T, what string, alike func(x, other T) bool, x, other T, want bool) {
+	t.Helper()
+	if alike(x, other) != want || alike(other, x) != want {
+		t.Errorf("%s: got %v or %v, want %v", what, alike(x, other), alike(other, x), want)
+	}
+}
+
 // changesOf calls use with the values that differ from x in one number, one bool, or one slice, of
 // which an element is missing, added, or in another place. A value is valid during its call only.
 func changesOf[T any](x T, numbers func(old int64) []int64, use func(what string, changed T)) {

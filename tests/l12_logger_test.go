@@ -838,9 +838,7 @@ func TestRisenLogOfOtherFields(t *testing.T) {
 // wantSameLog fails the test if SameLog is not as wanted, both ways.
 func wantSameLog(t *testing.T, what string, a, b impl.LogNode, want bool) {
 	t.Helper()
-	if impl.SameLog(a, b) != want || impl.SameLog(b, a) != want {
-		t.Errorf("SameLog, %s: got %v or %v, want %v", what, impl.SameLog(a, b), impl.SameLog(b, a), want)
-	}
+	wantAlike(t, "SameLog, "+what, impl.SameLog, a, b, want)
 }
 
 func TestSameLog(t *testing.T) {
